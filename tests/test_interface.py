@@ -5,7 +5,7 @@ import inspect
 import unittest
 from pathlib import Path
 
-from tillbasket import baskets, errors, shop
+from tillbasket import baskets, errors, notes, offers, paying, shop
 
 PACKAGE = Path(__file__).resolve().parent.parent / "tillbasket"
 
@@ -50,6 +50,27 @@ class Interface(unittest.TestCase):
             with self.subTest(name):
                 self.assertIn(name, found)
                 self.assertEqual(parameters(getattr(baskets, name)), told)
+
+    def test_offers_paying_and_notes_are_defined_in_their_files(self):
+        asked = ["shop", "offers", "basket"]
+        for module, name, told in ((offers, "deal_of", ["shop", "offer"]), (offers, "deals", ["shop", "offers"]),
+                                   (paying, "table", asked), (paying, "cost", asked), (paying, "paid", asked),
+                                   (notes, "shown", ["offer"]), (notes, "read", ["line"]), (notes, "billed", asked)):
+            with self.subTest(name):
+                self.assertIn(name, defined_in(Path(module.__file__).name))
+                self.assertEqual(parameters(getattr(module, name)), told)
+
+    def test_offers_paying_and_notes_take_their_arguments_by_their_names(self):
+        tea = shop.Shop([("tea", 300)])
+        line = notes.shown(offer=notes.read(line="share tea 20"))
+        self.assertEqual(line, "share tea 20")
+        share = ("share", "tea", 20)
+        self.assertEqual(offers.deal_of(shop=tea, offer=share), ((1,), 240))
+        self.assertEqual(offers.deals(shop=tea, offers=[share]), [((1,), 300), ((1,), 240)])
+        self.assertEqual(paying.table(shop=tea, offers=[share], basket=[1]), [0, 240])
+        self.assertEqual(paying.cost(shop=tea, offers=[share], basket=[1]), 240)
+        self.assertEqual(paying.paid(shop=tea, offers=[share], basket=[1]), (240, [0, 1]))
+        self.assertEqual(notes.billed(shop=tea, offers=[share], basket=[1]), ["1 x share tea 20: 240", "sum: 240"])
 
     def test_the_most_baskets_within(self):
         self.assertIs(type(baskets.MOST), int)
