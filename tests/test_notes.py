@@ -35,7 +35,8 @@ WRITTEN = [
 
 # Texts that write no number, wherever a number stands.
 NO_FIGURES = ["", "00", "01", "02", "03", "010", "+1", "-1", "+2", "-0", "2.", "2.0", "2,", "1_0", "1e1", "0x1", "x",
-              "ii", "\u0662", "\u00b2", "\uff12", "two", "True", "None", "2\n", "\t2", "2\r", "(2)", "9" * 20, "9" * 5000]
+              "ii", "\u0662", "\u00b2", "\uff12", "two", "True", "None", "2\n", "\t2", "2\r", "(2)",
+              "9" * 20, "9" * 5000]
 NO_NAMES = ["", "Tea", "TEA", "tea1", "t\u00e9", "te-a", "te_a", "abcdefghi", "3", "tea\n", "\ttea", "tea,", "'tea'",
             "`", "{", "\uff54ea", "\u00df"]
 

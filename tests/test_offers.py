@@ -44,7 +44,8 @@ class DealsTold(Asking):
 
     def test_what_a_share_takes_off_is_rounded_down(self):
         for price, off, left in ((455, 1, 451), (455, 99, 5), (7, 50, 4), (7, 14, 7), (7, 15, 6), (1, 99, 1),
-                                 (1, 100, 0), (99, 1, 99), (100, 1, 99), (101, 1, 100), (199, 1, 198), (99999, 33, 67000)):
+                                 (1, 100, 0), (99, 1, 99), (100, 1, 99), (101, 1, 100), (199, 1, 198),
+                                 (99999, 33, 67000)):
             self.assert_deal(("share", "a", off), (1,), left, Shop([("a", price)]))
 
     def test_slip(self):

@@ -27,7 +27,8 @@ print(table(shop, offers, basket), paid(shop, offers, basket), billed(shop, offe
 def told_with(seed):
     """What a process of its own tells, with this seed for Python's hashes."""
     settings = {"PYTHONHASHSEED": seed, "PYTHONDONTWRITEBYTECODE": "1"}
-    told = subprocess.run([sys.executable, "-c", ASKED], cwd=TOP, env=settings, capture_output=True, text=True, check=True)
+    told = subprocess.run([sys.executable, "-c", ASKED], cwd=TOP, env=settings, capture_output=True, text=True,
+                          check=True)
     return told.stdout
 
 
